@@ -1,0 +1,64 @@
+package tests
+
+import (
+	"math"
+	"reflect"
+	"testing"
+
+	"loop.example/g01293/impl"
+)
+
+// extremes are numbers at and beyond every limit, for arguments that may be any.
+var extremes = []int{
+	math.MinInt, math.MinInt + 1, -impl.MaxNumber - 1, -impl.MaxNumber, -1001, -10, -9, -3, -2, -1,
+	0, 1, 2, 3, 9, 10, 11, impl.MaxPath, impl.MaxPath + 1, impl.MaxSteps, impl.MaxSteps + 1,
+	impl.MaxNumber, impl.MaxNumber + 1, math.MaxInt - 1, math.MaxInt,
+}
+
+// results holds what a call returns: results(f(x)) takes all of its results.
+func results(values ...any) []any { return values }
+
+// isZero takes a nil slice and an empty one as the same value.
+func isZero(value any) bool {
+	v := reflect.ValueOf(value)
+	if v.Kind() == reflect.Slice {
+		return v.Len() == 0
+	}
+	return v.IsZero()
+}
+
+// hasFailed reports whether the last result is false and all others are zero.
+func hasFailed(got []any) bool {
+	for _, value := range got {
+		if !isZero(value) {
+			return false
+		}
+	}
+	return true
+}
+
+// wantFailed requires that each of the calls failed with zero results.
+func wantFailed(t *testing.T, calls map[string][]any) {
+	t.Helper()
+	for name, got := range calls {
+		if !hasFailed(got) {
+			t.Errorf("%s: got %v, want a failed call with zero results", name, got)
+		}
+	}
+}
+
+// wantResults requires that a call succeeded with these results.
+func wantResults(t *testing.T, name string, got []any, want ...any) {
+	t.Helper()
+	if want = append(want, true); !reflect.DeepEqual(got, want) {
+		t.Errorf("%s: got %v, want %v", name, got, want)
+	}
+}
+
+// wantNoHalfFailure requires that a call, if it failed, returned zeros besides.
+func wantNoHalfFailure(t *testing.T, name string, got []any) {
+	t.Helper()
+	if got[len(got)-1] == false && !hasFailed(got) {
+		t.Errorf("%s: failed, but with results: %v", name, got)
+	}
+}

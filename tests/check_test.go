@@ -3,6 +3,7 @@ package tests
 import (
 	"math"
 	"reflect"
+	"slices"
 	"testing"
 
 	"loop.example/g01293/impl"
@@ -60,5 +61,21 @@ func wantNoHalfFailure(t *testing.T, name string, got []any) {
 	t.Helper()
 	if got[len(got)-1] == false && !hasFailed(got) {
 		t.Errorf("%s: failed, but with results: %v", name, got)
+	}
+}
+
+// wantNewLists requires that lists which calls return are changed by no change of lists which they returned before.
+func wantNewLists(t *testing.T, lists func() map[string][]int) {
+	t.Helper()
+	changed, want := lists(), lists()
+	for _, list := range changed {
+		for i := range list {
+			list[i] = -99
+		}
+	}
+	for name, list := range lists() {
+		if len(list) == 0 || !slices.Equal(list, want[name]) {
+			t.Error(name, list, "want", want[name])
+		}
 	}
 }

@@ -611,7 +611,7 @@ func TestNoArgumentOfTreesPanics(t *testing.T) {
 }
 
 func TestResultsOfTreesAreNew(t *testing.T) {
-	lists := func() map[string][]int {
+	wantNewLists(t, func() map[string][]int {
 		before, _ := impl.NumbersBefore(threeUp, 16)
 		short, _ := impl.ShortBefore(threeUp, 8)
 		level, _ := impl.LevelOf(threeUp, 16, 4)
@@ -625,16 +625,5 @@ func TestResultsOfTreesAreNew(t *testing.T) {
 			"before": before, "short": short, "level": level, "sizes": sizes, "barren": barren, "branch": branch,
 			"short level": shortLevel, "tree": tree, "path": path,
 		}
-	}
-	changed, want := lists(), lists()
-	for _, list := range changed {
-		for i := range list {
-			list[i] = -99
-		}
-	}
-	for name, list := range lists() {
-		if len(list) == 0 || !slices.Equal(list, want[name]) {
-			t.Error(name, list, "want", want[name])
-		}
-	}
+	})
 }

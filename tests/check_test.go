@@ -79,3 +79,30 @@ func wantNewLists(t *testing.T, lists func() map[string][]int) {
 		}
 	}
 }
+
+// wantOwnRows requires that rows which a call returns share no memory with each other, nor with those which it returns later.
+func wantOwnRows(t *testing.T, name string, call func() ([][]int, bool)) {
+	t.Helper()
+	rows, _ := call()
+	want, _ := call()
+	if len(rows) < 2 {
+		t.Error(name, rows, "are too few")
+	}
+	for i, row := range rows {
+		// What is appended would be written behind the row, were there room.
+		_ = append(row, -99, -99, -99)
+		for j := range row {
+			row[j] = -99
+		}
+		for j, other := range rows {
+			isChanged := j <= i
+			if isChanged != slices.Contains(other, -99) || !isChanged && !slices.Equal(other, want[j]) {
+				t.Error(name, rows, "with a change of", i)
+			}
+		}
+	}
+	_ = append(rows, []int{-99})
+	if again, ok := call(); !ok || !slices.EqualFunc(again, want, slices.Equal[[]int]) {
+		t.Error(name, again, ok, "want", want)
+	}
+}

@@ -547,27 +547,6 @@ func TestListsOfRecordsAreNew(t *testing.T) {
 }
 
 func TestPairsOfRecordsShareNothing(t *testing.T) {
-	for name, call := range map[string]func() ([][]int, bool){
-		"steps": func() ([][]int, bool) { return impl.StepRecords(threeUp, 10) },
-		"peaks": func() ([][]int, bool) { return impl.PeakRecords(threeUp, 10) },
-	} {
-		pairs, _ := call()
-		want, _ := call()
-		for i := range pairs {
-			// What is appended would be written behind the pair, were there room.
-			longer := append(pairs[i], -99, -99)
-			longer[0], pairs[i][0], pairs[i][1] = -99, -99, -99
-			if !slices.EqualFunc(pairs[i+1:], want[i+1:], slices.Equal[[]int]) {
-				t.Error(name, pairs, "changed behind", i)
-			}
-			for j := range i {
-				if !slices.Equal(pairs[j], []int{-99, -99}) {
-					t.Error(name, pairs, "changed before", i)
-				}
-			}
-		}
-		_ = append(pairs, []int{-99})
-		again, ok := call()
-		wantPairs(t, name+" again", results(again, ok), want)
-	}
+	wantOwnRows(t, "steps", func() ([][]int, bool) { return impl.StepRecords(threeUp, 10) })
+	wantOwnRows(t, "peaks", func() ([][]int, bool) { return impl.PeakRecords(threeUp, 10) })
 }

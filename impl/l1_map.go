@@ -253,7 +253,7 @@ func readMap(s string) Map {
 	return m
 }
 
-// readInt returns 0, which is no part of a map, if the text is no number.
+// readInt returns 0 if the text is no number.
 func readInt(s string) int {
 	n, err := strconv.Atoi(s)
 	if err != nil {
